@@ -1,0 +1,1 @@
+"""Four numbers with fractions in one: see fourfixed.vectors."""
