@@ -14,14 +14,26 @@ GREATEST = 2**31 - 1
 
 PACKAGE = pathlib.Path(vectors.__file__).resolve().parent
 
-TWO_VECTORS = ["sum_of", "difference", "product"]
-
 PAIRS = [
     ([65536, -131072, 3, 4], [5, 65536, -7, 98304]),
     ([0, 0, 0, 0], [0, 0, 0, 0]),
     ([GREATEST, LEAST, GREATEST, LEAST], [GREATEST, LEAST, LEAST, GREATEST]),
     ([-1, -1, 1, 1], [32768, 32769, 32768, 32767]),
 ]
+
+PARTS = [(t, a, b) for t in (32768, LEAST) for a, b in PAIRS]
+
+# A call's name: its arguments' names, what is handed in for them, how many numbers it answers.
+CALLS = {
+    "sum_of": (["a", "b"], PAIRS, 5),
+    "difference": (["a", "b"], PAIRS, 5),
+    "product": (["a", "b"], PAIRS, 5),
+    "quotient": (["a", "b"], PAIRS, 5),
+    "between": (["t", "a", "b"], PARTS, 5),
+    "dot": (["a", "b"], PAIRS, 1),
+}
+
+NUMBER_ALONE = ["dot"]
 
 
 class Unchanging(list):
@@ -34,87 +46,119 @@ class Unchanging(list):
     append = extend = insert = pop = remove = clear = reverse = sort = refuse
 
 
-def call(name, a, b):
-    return getattr(vectors, name)(a, b)
+def copied(handed, kind=list):
+    """Copies of what is handed in, of the lists among it."""
+    return [kind(value) if isinstance(value, list) else value for value in handed]
 
 
-class TwoVectors(unittest.TestCase):
-    def each(self):
-        return [(name, list(a), list(b)) for name in TWO_VECTORS for a, b in PAIRS]
+def each():
+    """Each call's name with each row of what is handed in, as fresh lists."""
+    return [(name, copied(handed)) for name, (_, rows, _) in CALLS.items() for handed in rows]
 
+
+def call(name, handed):
+    return getattr(vectors, name)(*handed)
+
+
+def with_one_list_for_all(handed):
+    """One and the same list wherever a list of its length is handed in."""
+    first = {}
+    return [first.setdefault(len(value), value) if isinstance(value, list) else value for value in handed]
+
+
+class EachCall(unittest.TestCase):
     def test_arguments(self):
-        for name in TWO_VECTORS:
-            self.assertEqual(list(inspect.signature(getattr(vectors, name)).parameters), ["a", "b"], name)
+        for name, (arguments, _, _) in CALLS.items():
+            parameters = inspect.signature(getattr(vectors, name)).parameters.values()
+            self.assertEqual([parameter.name for parameter in parameters], arguments, name)
+            for parameter in parameters:
+                self.assertIs(parameter.kind, inspect.Parameter.POSITIONAL_OR_KEYWORD, name)
+                self.assertIs(parameter.default, inspect.Parameter.empty, name)
 
     def test_arguments_by_name(self):
-        for name, a, b in self.each():
-            self.assertEqual(getattr(vectors, name)(b=b, a=a), call(name, a, b))
+        for name, handed in each():
+            by_name = dict(reversed(list(zip(CALLS[name][0], handed))))
+            self.assertEqual(getattr(vectors, name)(**by_name), call(name, handed))
 
-    def test_list_of_five_whole_numbers_that_begins_with_0(self):
-        for name, a, b in self.each():
-            answer = call(name, a, b)
-            self.assertIs(type(answer), list)
-            self.assertEqual([type(number) for number in answer], [int] * 5)
-            self.assertEqual(answer[0], 0)
-            for number in answer:
-                self.assertTrue(LEAST <= number <= GREATEST)
+    def test_list_of_as_many_whole_numbers_as_told(self):
+        for name, handed in each():
+            answer = call(name, handed)
+            self.assertIs(type(answer), list, name)
+            self.assertEqual([type(number) for number in answer], [int] * CALLS[name][2], name)
+
+    def test_vectors_stand_behind_a_0_and_are_numbers(self):
+        for name, handed in each():
+            if name not in NUMBER_ALONE:
+                answer = call(name, handed)
+                self.assertEqual(answer[0], 0, name)
+                for number in answer:
+                    self.assertTrue(LEAST <= number <= GREATEST, name)
 
     def test_what_is_handed_in_stays(self):
-        for name, a, b in self.each():
-            before = (list(a), list(b))
-            call(name, a, b)
-            self.assertEqual((a, b), before)
+        for name, handed in each():
+            before = copied(handed)
+            call(name, handed)
+            self.assertEqual(handed, before, name)
 
     def test_what_is_handed_in_is_not_changed_for_a_while(self):
-        for name, a, b in self.each():
-            self.assertEqual(call(name, Unchanging(a), Unchanging(b)), call(name, a, b))
+        for name, handed in each():
+            self.assertEqual(call(name, copied(handed, Unchanging)), call(name, handed), name)
 
-    def test_same_list_as_both(self):
-        for name, a, b in self.each():
-            before = list(a)
-            self.assertEqual(call(name, a, a), call(name, before, list(before)))
-            self.assertEqual(a, before)
+    def test_same_list_more_than_once(self):
+        for name, handed in each():
+            one = with_one_list_for_all(handed)
+            before = copied(one)
+            self.assertEqual(call(name, one), call(name, before), name)
+            self.assertEqual(one, before, name)
 
-    def test_same_list_as_both_by_value(self):
+    def test_answer_is_a_list_of_its_own(self):
+        for name, handed in each():
+            before = copied(handed)
+            answer = call(name, handed)
+            for value in handed:
+                self.assertIsNot(answer, value, name)
+            expected = list(answer)
+            answer[0] = 99
+            answer[1:] = [77] * 9
+            self.assertEqual(handed, before, name)
+            self.assertEqual(call(name, handed), expected, name)
+
+    def test_changing_what_was_handed_in_leaves_the_answer(self):
+        for name, handed in each():
+            answer = call(name, handed)
+            expected = list(answer)
+            for value in handed:
+                if isinstance(value, list):
+                    value.reverse()
+                    value.append(12345)
+            self.assertEqual(answer, expected, name)
+
+    def test_same_answer_whatever_was_called_before(self):
+        calls = each()
+        first = [call(name, copied(handed)) for name, handed in calls]
+        for before in calls:
+            for place, (name, handed) in enumerate(calls):
+                call(before[0], copied(before[1]))
+                self.assertEqual(call(name, copied(handed)), first[place], (before, name, handed))
+
+    def test_prints_nothing(self):
+        for name, handed in each():
+            out, err = io.StringIO(), io.StringIO()
+            with contextlib.redirect_stdout(out), contextlib.redirect_stderr(err):
+                call(name, handed)
+            self.assertEqual((out.getvalue(), err.getvalue()), ("", ""), name)
+
+
+class SameListAsBoth(unittest.TestCase):
+    def test_by_value(self):
         a = [131072, -131072, 3, LEAST]
         self.assertEqual(vectors.sum_of(a, a), [0, 262144, -262144, 6, LEAST])
         self.assertEqual(vectors.difference(a, a), [0, 0, 0, 0, 0])
         self.assertEqual(vectors.product(a, a), [0, 262144, 262144, 0, GREATEST])
-
-    def test_answer_is_a_list_of_its_own(self):
-        for name, a, b in self.each():
-            before = (list(a), list(b))
-            answer = call(name, a, b)
-            expected = list(answer)
-            answer[0] = 99
-            answer[1:] = [77] * 9
-            self.assertEqual((a, b), before)
-            self.assertEqual(call(name, a, b), expected)
-
-    def test_changing_what_was_handed_in_leaves_the_answer(self):
-        for name, a, b in self.each():
-            answer = call(name, a, b)
-            expected = list(answer)
-            a[0] = 12345
-            b.clear()
-            self.assertEqual(answer, expected)
-
-    def test_same_answer_whatever_was_called_before(self):
-        calls = self.each()
-        first = {}
-        for place, (name, a, b) in enumerate(calls):
-            first[place] = call(name, list(a), list(b))
-        for before in calls:
-            for place, (name, a, b) in enumerate(calls):
-                call(before[0], list(before[1]), list(before[2]))
-                self.assertEqual(call(name, list(a), list(b)), first[place], (before, name, a, b))
-
-    def test_prints_nothing(self):
-        for name, a, b in self.each():
-            out, err = io.StringIO(), io.StringIO()
-            with contextlib.redirect_stdout(out), contextlib.redirect_stderr(err):
-                call(name, a, b)
-            self.assertEqual((out.getvalue(), err.getvalue()), ("", ""))
+        self.assertEqual(vectors.quotient(a, a), [0, 65536, 65536, 65536, 65536])
+        self.assertEqual(vectors.between(12345, a, a), [0, 131072, -131072, 3, LEAST])
+        self.assertEqual(vectors.dot(a, a), [2**46 + 2**19])
+        self.assertEqual(a, [131072, -131072, 3, LEAST])
 
 
 class Source(unittest.TestCase):
