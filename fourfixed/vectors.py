@@ -65,3 +65,31 @@ def sum_of_products_down(a, b):
 
 def dot(a, b):
     return [sum_of_products_down(a, b)]
+
+
+def crossed_lane(a, b, i, j):
+    return held((a[i] * b[j] - a[j] * b[i]) // ONE)
+
+
+def cross(a, b):
+    return [0, crossed_lane(a, b, 1, 2), crossed_lane(a, b, 2, 0), crossed_lane(a, b, 0, 1), 0]
+
+
+def root_down(number):
+    # From above, the mean of a guess and the number by it falls until it is the root down, and never below that.
+    guess = number
+    while guess * guess > number:
+        guess = (guess + number // guess) // 2
+    return guess
+
+
+def length(a):
+    return [root_down(sum([x * x for x in a[:3]]))]
+
+
+def unit(a):
+    size = length(a)[0]
+    if size == 0:
+        return [0] + a
+    # No lane need be held: the length is down, yet no lane lies further from 0 than it.
+    return [0] + [towards_0(x * ONE, size) for x in a[:3]] + [a[3]]

@@ -21,6 +21,8 @@ PAIRS = [
     ([-1, -1, 1, 1], [32768, 32769, 32768, 32767]),
 ]
 
+ONES = [(a,) for pair in PAIRS for a in pair] + [([0, 0, 0, w],) for w in (7, -7)]
+
 PARTS = [(t, a, b) for t in (32768, LEAST) for a, b in PAIRS]
 
 # A call's name: its arguments' names, what is handed in for them, how many numbers it answers.
@@ -31,9 +33,12 @@ CALLS = {
     "quotient": (["a", "b"], PAIRS, 5),
     "between": (["t", "a", "b"], PARTS, 5),
     "dot": (["a", "b"], PAIRS, 1),
+    "cross": (["a", "b"], PAIRS, 5),
+    "length": (["a"], ONES, 1),
+    "unit": (["a"], ONES, 5),
 }
 
-NUMBER_ALONE = ["dot"]
+NUMBER_ALONE = ["dot", "length"]
 
 
 class Unchanging(list):
@@ -158,6 +163,7 @@ class SameListAsBoth(unittest.TestCase):
         self.assertEqual(vectors.quotient(a, a), [0, 65536, 65536, 65536, 65536])
         self.assertEqual(vectors.between(12345, a, a), [0, 131072, -131072, 3, LEAST])
         self.assertEqual(vectors.dot(a, a), [2**46 + 2**19])
+        self.assertEqual(vectors.cross(a, a), [0, 0, 0, 0, 0])
         self.assertEqual(a, [131072, -131072, 3, LEAST])
 
 
