@@ -93,3 +93,33 @@ def unit(a):
         return [0] + a
     # No lane need be held: the length is down, yet no lane lies further from 0 than it.
     return [0] + [towards_0(x * ONE, size) for x in a[:3]] + [a[3]]
+
+
+def pick(a, b, which):
+    lanes = a + b
+    # What % leaves is 0 to 7 below 0 too.
+    return [0] + [lanes[number % 8] for number in which]
+
+
+def beyond(x, w):
+    # Not either or: where w is below 0, a lane may lie beyond both bounds.
+    below = 1 if x < -w else 0
+    above = 2 if x > w else 0
+    return below + above
+
+
+def outside(p):
+    w = p[3]
+    return [beyond(p[0], w) + 4 * beyond(p[1], w) + 16 * beyond(p[2], w)]
+
+
+def fours(numbers):
+    return [numbers[start:start + 4] for start in range(0, len(numbers), 4)]
+
+
+def applied(rows, point):
+    return [held(sum_of_products_down(row, point)) for row in rows]
+
+
+def apply(m, p):
+    return [0] + applied(fours(m), p)

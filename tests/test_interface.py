@@ -25,6 +25,16 @@ ONES = [(a,) for pair in PAIRS for a in pair] + [([0, 0, 0, w],) for w in (7, -7
 
 PARTS = [(t, a, b) for t in (32768, LEAST) for a, b in PAIRS]
 
+CHOICES = [(a, b, which) for a, b in PAIRS for which in ([0, 5, 2, 7], [-1, 8, LEAST, GREATEST])]
+
+MATRICES = [
+    [65536 * number for number in range(1, 17)],
+    [-1, 2, -3, 4, 65535, -65537, 0, 1, GREATEST, LEAST, 7, -7, 32768, -32768, 5, 6],
+    [LEAST] * 16,
+]
+
+MOVES = [(m, p) for m in MATRICES for (p,) in ONES]
+
 # A call's name: its arguments' names, what is handed in for them, how many numbers it answers.
 CALLS = {
     "sum_of": (["a", "b"], PAIRS, 5),
@@ -36,9 +46,12 @@ CALLS = {
     "cross": (["a", "b"], PAIRS, 5),
     "length": (["a"], ONES, 1),
     "unit": (["a"], ONES, 5),
+    "pick": (["a", "b", "which"], CHOICES, 5),
+    "outside": (["p"], ONES, 1),
+    "apply": (["m", "p"], MOVES, 5),
 }
 
-NUMBER_ALONE = ["dot", "length"]
+NUMBER_ALONE = ["dot", "length", "outside"]
 
 
 class Unchanging(list):
@@ -164,6 +177,7 @@ class SameListAsBoth(unittest.TestCase):
         self.assertEqual(vectors.between(12345, a, a), [0, 131072, -131072, 3, LEAST])
         self.assertEqual(vectors.dot(a, a), [2**46 + 2**19])
         self.assertEqual(vectors.cross(a, a), [0, 0, 0, 0, 0])
+        self.assertEqual(vectors.pick(a, a, a), [0, 131072, 131072, LEAST, 131072])
         self.assertEqual(a, [131072, -131072, 3, LEAST])
 
 
