@@ -123,3 +123,30 @@ def applied(rows, point):
 
 def apply(m, p):
     return [0] + applied(fours(m), p)
+
+
+def all_applied(rows, points):
+    answer = [0]
+    for point in points:
+        answer.extend(applied(rows, point))
+    return answer
+
+
+def all_points(m, p):
+    return all_applied(fours(m), fours(p))
+
+
+def columns(numbers):
+    return [numbers[lane::4] for lane in range(4)]
+
+
+def compose(a, b):
+    # Each place sums a row of a by a column of b, so b's columns take the place of the rows that are applied.
+    return all_applied(columns(b), fours(a))
+
+
+def turn(m):
+    answer = [0]
+    for column in columns(m):
+        answer.extend(column)
+    return answer

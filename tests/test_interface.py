@@ -35,7 +35,14 @@ MATRICES = [
 
 MOVES = [(m, p) for m in MATRICES for (p,) in ONES]
 
-# A call's name: its arguments' names, what is handed in for them, how many numbers it answers.
+COMPOSED = [(a, b) for a in MATRICES for b in MATRICES]
+
+POINTS = [[], [5, 65536, -7, 98304], [1, 2, 3, 4, -5, 6, -7, 8, LEAST, 0, GREATEST, 0], MATRICES[1]]
+
+ALL_MOVES = [(m, p) for m in MATRICES for p in POINTS]
+
+# A call's name: its arguments' names, what is handed in for them, how many numbers it answers
+# (where that hangs on what is handed in: by this).
 CALLS = {
     "sum_of": (["a", "b"], PAIRS, 5),
     "difference": (["a", "b"], PAIRS, 5),
@@ -49,6 +56,9 @@ CALLS = {
     "pick": (["a", "b", "which"], CHOICES, 5),
     "outside": (["p"], ONES, 1),
     "apply": (["m", "p"], MOVES, 5),
+    "compose": (["a", "b"], COMPOSED, 17),
+    "turn": (["m"], [(m,) for m in MATRICES], 17),
+    "all_points": (["m", "p"], ALL_MOVES, lambda m, p: 1 + len(p)),
 }
 
 NUMBER_ALONE = ["dot", "length", "outside"]
@@ -78,6 +88,11 @@ def call(name, handed):
     return getattr(vectors, name)(*handed)
 
 
+def how_many(name, handed):
+    told = CALLS[name][2]
+    return told(*handed) if callable(told) else told
+
+
 def with_one_list_for_all(handed):
     """One and the same list wherever a list of its length is handed in."""
     first = {}
@@ -102,9 +117,9 @@ class EachCall(unittest.TestCase):
         for name, handed in each():
             answer = call(name, handed)
             self.assertIs(type(answer), list, name)
-            self.assertEqual([type(number) for number in answer], [int] * CALLS[name][2], name)
+            self.assertEqual([type(number) for number in answer], [int] * how_many(name, handed), name)
 
-    def test_vectors_stand_behind_a_0_and_are_numbers(self):
+    def test_what_stands_behind_a_0_are_numbers(self):
         for name, handed in each():
             if name not in NUMBER_ALONE:
                 answer = call(name, handed)
