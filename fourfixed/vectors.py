@@ -1,4 +1,4 @@
-"""Vectors of four numbers, each a whole number that stands for its 65,536th part."""
+"""Vectors of four numbers and matrices of sixteen, each a whole number that stands for its 65,536th part."""
 
 LEAST = -2147483648
 GREATEST = 2147483647
@@ -97,7 +97,7 @@ def unit(a):
 
 def pick(a, b, which):
     lanes = a + b
-    # What % leaves is 0 to 7 below 0 too.
+    # What is left over is 0 to 7 for numbers below 0 too.
     return [0] + [lanes[number % 8] for number in which]
 
 
@@ -150,3 +150,18 @@ def turn(m):
     for column in columns(m):
         answer.extend(column)
     return answer
+
+
+def on_the_bounds(point, least, greatest):
+    return any([x == low or x == high for x, low, high in zip(point, least, greatest)])
+
+
+def bounds(p):
+    if len(p) == 0:
+        return [0]
+    lanes = columns(p)
+    least = [min(lane) for lane in lanes]
+    greatest = [max(lane) for lane in lanes]
+    # A point counts once, however many of its lanes are the least's or the greatest's.
+    touching = [point for point in fours(p) if on_the_bounds(point, least, greatest)]
+    return [len(touching)] + least + greatest

@@ -59,9 +59,11 @@ CALLS = {
     "compose": (["a", "b"], COMPOSED, 17),
     "turn": (["m"], [(m,) for m in MATRICES], 17),
     "all_points": (["m", "p"], ALL_MOVES, lambda m, p: 1 + len(p)),
+    "bounds": (["p"], [(p,) for p in POINTS], lambda p: 9 if p else 1),
 }
 
-NUMBER_ALONE = ["dot", "length", "outside"]
+# What these answer first is not a 0 that the rest stands behind.
+NUMBER_FIRST = ["dot", "length", "outside", "bounds"]
 
 
 class Unchanging(list):
@@ -100,6 +102,9 @@ def with_one_list_for_all(handed):
 
 
 class EachCall(unittest.TestCase):
+    def test_all_sixteen(self):
+        self.assertEqual(len(CALLS), 16)
+
     def test_arguments(self):
         for name, (arguments, _, _) in CALLS.items():
             parameters = inspect.signature(getattr(vectors, name)).parameters.values()
@@ -121,7 +126,7 @@ class EachCall(unittest.TestCase):
 
     def test_what_stands_behind_a_0_are_numbers(self):
         for name, handed in each():
-            if name not in NUMBER_ALONE:
+            if name not in NUMBER_FIRST:
                 answer = call(name, handed)
                 self.assertEqual(answer[0], 0, name)
                 for number in answer:
@@ -173,6 +178,16 @@ class EachCall(unittest.TestCase):
             for place, (name, handed) in enumerate(calls):
                 call(before[0], copied(before[1]))
                 self.assertEqual(call(name, copied(handed)), first[place], (before, name, handed))
+
+    def test_same_answers_in_another_order(self):
+        calls = each()
+        first = [call(name, copied(handed)) for name, handed in calls]
+        places = list(range(len(calls)))
+        # Backwards, in strides that bring other calls side by side, and as at first.
+        for order in (places[::-1], sorted(places, key=lambda place: place * 37 % len(places)), places):
+            for place in order:
+                name, handed = calls[place]
+                self.assertEqual(call(name, copied(handed)), first[place], (name, handed))
 
     def test_prints_nothing(self):
         for name, handed in each():

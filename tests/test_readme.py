@@ -7,7 +7,7 @@ import unittest
 from fourfixed import vectors
 
 CALLS = ["sum_of", "difference", "product", "quotient", "between", "dot", "cross", "length", "unit", "pick", "outside",
-         "apply", "compose", "turn", "all_points"]
+         "apply", "compose", "turn", "all_points", "bounds"]
 
 README = pathlib.Path(__file__).resolve().parent.parent / "README.md"
 
